@@ -1,0 +1,1 @@
+"""Belltables: tables of measurements that no plan ahead explains."""

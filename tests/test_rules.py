@@ -1,0 +1,139 @@
+"""What can be told of the files of the package at sight: sizes, signs, names, imports, statements."""
+
+import ast
+import builtins
+import unittest
+from pathlib import Path
+
+FOLDER = Path(__file__).resolve().parent.parent / "belltables"
+FILES = sorted(FOLDER.rglob("*.py"))
+LIBRARY = {
+    "heapq": {"heappush", "heappop", "heapify", "heapreplace", "heappushpop"},
+    "math": {"gcd", "lcm", "isqrt", "comb", "perm", "factorial"},
+    "itertools": {"product", "combinations", "permutations", "chain", "accumulate", "pairwise", "islice",
+                  "zip_longest"},
+    "collections": {"defaultdict"},
+}
+KNOWN = set(
+    "len range enumerate zip min max sum abs sorted reversed int str bool bytes list tuple dict set frozenset isinstance "
+    "ord repr any all divmod pow getattr hasattr setattr Exception ValueError TypeError KeyError IndexError LookupError "
+    "ZeroDivisionError ArithmeticError OverflowError RuntimeError NotImplementedError AttributeError StopIteration "
+    "NotImplemented iter next map property staticmethod classmethod super object float".split())
+BARRED = {"register", "mro", "elements", "open", "input", "law", "version_info", "with_traceback", "add_note"}
+WORDS = {"typing", "enum", "Enum", "Generic", "Protocol", "ABC", "namedtuple", "NamedTuple", "TypedDict"}
+MODULE_LEVEL = (ast.ImportFrom, ast.FunctionDef, ast.ClassDef, ast.Assign)
+STATEMENTS = MODULE_LEVEL + (
+    ast.AugAssign, ast.AnnAssign, ast.If, ast.While, ast.For, ast.Return, ast.Break, ast.Continue, ast.Pass, ast.Raise,
+    ast.Assert, ast.Delete, ast.Nonlocal, ast.Match, ast.With, ast.Try, ast.Expr)
+
+
+def assigned(tree):
+    """All names that are bound somewhere in a tree."""
+    names = set()
+    for node in ast.walk(tree):
+        if isinstance(node, ast.Name) and not isinstance(node.ctx, ast.Load):
+            names.add(node.id)
+        elif isinstance(node, ast.arg):
+            names.add(node.arg)
+        elif isinstance(node, ast.ExceptHandler) and node.name:
+            names.add(node.name)
+    return names
+
+
+class Rules(unittest.TestCase):
+    def setUp(self):
+        self.trees = {path: ast.parse(path.read_text()) for path in FILES}
+
+    def test_files(self):
+        self.assertTrue(FILES)
+        for path in FOLDER.rglob("*"):
+            if "__pycache__" not in path.parts:
+                self.assertTrue(path.suffix == ".py" or path.is_dir(), path)
+        for path in FILES:
+            text = path.read_text()
+            self.assertTrue(all(sign == "\n" or " " <= sign <= "~" for sign in text), path)
+            self.assertLessEqual(len(text.splitlines()), 399, path)
+            for at, line in enumerate(text.splitlines(), 1):
+                self.assertLessEqual(len(line), 120, (path, at))
+
+    def test_functions(self):
+        for path, tree in self.trees.items():
+            for node in ast.walk(tree):
+                if isinstance(node, ast.FunctionDef):
+                    self.assertLessEqual(node.end_lineno - node.lineno + 1, 40, (path, node.name))
+                    self.assertTrue(ast.get_docstring(node) or node.name == "__init__", (path, node.name))
+
+    def test_statements(self):
+        for path, tree in self.trees.items():
+            for node in tree.body[1:]:
+                self.assertIsInstance(node, MODULE_LEVEL, (path, node.lineno))
+            for node in ast.walk(tree):
+                if isinstance(node, ast.stmt):
+                    self.assertIsInstance(node, STATEMENTS, (path, node.lineno))
+                if isinstance(node, ast.BinOp):
+                    self.assertNotIsInstance(node.op, (ast.Div, ast.MatMult), (path, node.lineno))
+                if isinstance(node, ast.Constant):
+                    self.assertNotIsInstance(node.value, (float, complex), (path, node.lineno))
+                    self.assertNotIn("%", node.value if isinstance(node.value, str) else "", (path, node.lineno))
+
+    def test_imports(self):
+        for path, tree in self.trees.items():
+            for node in ast.walk(tree):
+                self.assertNotIsInstance(node, ast.Import, path)
+                if not isinstance(node, ast.ImportFrom):
+                    continue
+                self.assertIn(node, tree.body)
+                self.assertEqual(node.level, 0)
+                names = {alias.name for alias in node.names}
+                if node.module in LIBRARY:
+                    self.assertLessEqual(names, LIBRARY[node.module], path)
+                    self.assertFalse(names & assigned(tree), path)
+                    continue
+                source = FOLDER.parent / (node.module.replace(".", "/") + ".py")
+                self.assertIn(source, FILES, path)
+                told = {each.name for each in self.trees[source].body if hasattr(each, "name")}
+                told |= {target.id for each in self.trees[source].body if isinstance(each, ast.Assign)
+                         for target in each.targets}
+                self.assertLessEqual(names, told, path)
+
+    def test_no_ring_of_imports(self):
+        needs = {path.stem: {node.module.split(".")[1] for node in tree.body if isinstance(node, ast.ImportFrom)
+                             and node.module.startswith("belltables.")} for path, tree in self.trees.items()}
+        while needs:
+            free = [name for name, others in needs.items() if not others & set(needs)]
+            self.assertTrue(free, needs)
+            needs = {name: others for name, others in needs.items() if name not in free}
+
+    def test_names(self):
+        for path, tree in self.trees.items():
+            imported = {alias.name for node in tree.body if isinstance(node, ast.ImportFrom) for alias in node.names}
+            classes = {node.name for node in tree.body if isinstance(node, ast.ClassDef)}
+            own = {node.name for node in ast.walk(tree) if isinstance(node, (ast.FunctionDef, ast.ClassDef))}
+            bound = assigned(tree)
+            self.assertFalse(bound & (imported | classes), path)
+            self.assertFalse((bound | own) & set(dir(builtins)), path)
+            self.assertFalse((bound | own) & BARRED, path)
+            top = [node.name for node in tree.body if hasattr(node, "name")]
+            self.assertEqual(len(top), len(set(top)), path)
+            for node in ast.walk(tree):
+                if isinstance(node, ast.Name):
+                    self.assertIn(node.id, bound | own | imported | KNOWN, (path, node.lineno))
+                    self.assertFalse(node.id == "_" and isinstance(node.ctx, ast.Load), (path, node.lineno))
+                    self.assertNotIn(node.id, WORDS)
+                if isinstance(node, ast.Attribute):
+                    self.assertNotIn(node.attr, BARRED)
+                    self.assertFalse(node.attr.startswith("__") and node.attr != "__init__", (path, node.lineno))
+
+    def test_sets(self):
+        """A set is not iterated."""
+        for path, tree in self.trees.items():
+            for node in ast.walk(tree):
+                if isinstance(node, (ast.For, ast.comprehension)):
+                    source = node.iter
+                    self.assertNotIsInstance(source, (ast.Set, ast.SetComp), path)
+                    self.assertFalse(isinstance(source, ast.Call) and isinstance(source.func, ast.Name)
+                                     and source.func.id == "set", path)
+
+
+if __name__ == "__main__":
+    unittest.main()
