@@ -33,11 +33,6 @@ def is_each_once(value, many):
         sorted(value) == list(range(many)))
 
 
-def is_section_of(value, sizes):
-    """Whether it is a section for so many outcomes each."""
-    return is_tuple_of(value, len(sizes)) and all([is_index(outcome, size) for outcome, size in zip(value, sizes)])
-
-
 def are_outcomes(value):
     """Whether it tells how many outcomes the observables of some scenario have."""
     if not isinstance(value, tuple) or not 1 <= len(value) <= 6:

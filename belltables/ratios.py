@@ -50,11 +50,6 @@ def plus(one, two):
     return lowest(one[0] * two[1] + two[0] * one[1], one[1] * two[1])
 
 
-def is_below(one, two):
-    """Whether the first fraction is less than the second one."""
-    return one[0] * two[1] < two[0] * one[1]
-
-
 def bottom_of(numbers):
     """The least common multiple of the denominators of fractions."""
     bottom = 1

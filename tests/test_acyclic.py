@@ -200,7 +200,7 @@ class Along(Case):
             rights = sorted(own_reductions(scenario[1]))
             for zeros in (0, 60, 90):
                 family = maker.joint_family(scenario, 9, zeros)
-                for row in maker.random.sample(rights, min(len(rights), 8)):
+                for row in rights if len(rights) <= 200 else maker.random.sample(rights, 20):
                     told = joint_along(scenario, family, row)
                     numbers = [frac(number) for number in told]
                     self.assertEqual(numbers, self.own_along(scenario, family, row))
