@@ -2,13 +2,8 @@
 
 from belltables.inner import by_marks, from_marks, inner_sections, lots_within, mark_of, mark_place
 from belltables.ratios import lowest, lowest_row
-from belltables.shapes import overlap, sections_in, sizes_of
+from belltables.shapes import overlap, pairs_of, sections_in, sizes_of
 from belltables.simplex import solve
-
-
-def pairs_of(many):
-    """The pairs of indexes of so many, the lesser one first, in order: a list."""
-    return [(one, other) for one in range(many) for other in range(one + 1, many)]
 
 
 def greatest_no_signalling(scenario, rows, bottom):

@@ -4,7 +4,7 @@ Each function looks at the form from the outside in, so that it can be asked of 
 """
 
 from belltables.ratios import ONE, is_chance, is_fraction, is_whole, total
-from belltables.shapes import everything, is_within, many_sections
+from belltables.shapes import everything, is_within, many_sections, sizes_of
 
 
 def is_tuple_of(value, many):
@@ -33,6 +33,17 @@ def is_each_once(value, many):
         sorted(value) == list(range(many)))
 
 
+def is_section_by(value, sizes):
+    """Whether it is a tuple of an outcome for each of so many outcomes."""
+    return is_tuple_of(value, len(sizes)) and all([is_index(outcome, size) for outcome, size in zip(value, sizes)])
+
+
+def are_sections(value, sizes):
+    """Whether it is an ascending tuple of one or more such tuples of outcomes."""
+    return isinstance(value, tuple) and len(value) > 0 and (
+        all([is_section_by(section, sizes) for section in value]) and is_ascending(value))
+
+
 def are_outcomes(value):
     """Whether it tells how many outcomes the observables of some scenario have."""
     if not isinstance(value, tuple) or not 1 <= len(value) <= 6:
@@ -57,7 +68,12 @@ def are_contexts(value, many):
     for observable in range(many):
         if not any([observable in context for context in value]):
             return False
-    return not any([is_within(one, other) for one in value for other in value if one != other])
+    return not is_within_another(value)
+
+
+def is_within_another(contexts):
+    """Whether one of unlike contexts is within another one."""
+    return any([is_within(one, other) for one in contexts for other in contexts if one != other])
 
 
 def is_scenario_form(value):
@@ -100,6 +116,11 @@ def wrong_numbers(scenario, value):
                         for row, context in zip(value, scenario[1])])
 
 
+def wrong_sections(scenario, value):
+    """The index of the first of as many as contexts that is no row of a support there; None."""
+    return first_wrong([are_sections(row, sizes_of(scenario, context)) for row, context in zip(value, scenario[1])])
+
+
 def is_family_form(scenario, value):
     """Whether it is a family of the scenario."""
     return has_rows(scenario, value) and wrong_chances(scenario, value) is None
@@ -108,6 +129,11 @@ def is_family_form(scenario, value):
 def are_weights(scenario, value):
     """Whether it is weights of the scenario."""
     return has_rows(scenario, value) and wrong_numbers(scenario, value) is None
+
+
+def is_support_form(scenario, value):
+    """Whether it is a support of the scenario."""
+    return has_rows(scenario, value) and wrong_sections(scenario, value) is None
 
 
 def is_distribution_form(scenario, value):

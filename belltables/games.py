@@ -1,12 +1,12 @@
 """Nonlocal games: their values for families, the classical and the no-signalling value."""
 
-from belltables.bounds import greatest_no_signalling, pairs_of
+from belltables.bounds import greatest_no_signalling
 from belltables.errors import InvalidGame
 from belltables.forms import has_rows, is_chance_row, is_row, is_tuple_of
 from belltables.guards import need_agreed, need_family, need_scenario
 from belltables.parts import greatest_part
-from belltables.ratios import ONE, ZERO, is_whole, minus, over_one, plus, product_sum, times
-from belltables.shapes import many_sections, overlap, tellings
+from belltables.ratios import ZERO, is_whole, mixed, over_one, product_sum
+from belltables.shapes import many_sections, overlap, pairs_of, tellings
 from belltables.tops import first_greatest
 
 
@@ -116,4 +116,4 @@ def most_value(scenario, game, family):
     rows, bottom = over_one(game_weights(game))
     classical = first_greatest(scenario, game_weights(game))[0]
     beyond = greatest_no_signalling(scenario, rows, bottom)[0]
-    return plus(times(part, classical), times(minus(ONE, part), beyond))
+    return mixed(part, classical, beyond)

@@ -1,10 +1,11 @@
 """Checks of arguments: each raises the error that the document tells, and returns nothing."""
 
 from belltables.errors import (
-    InvalidDistribution, InvalidFamily, InvalidFraction, InvalidLot, InvalidNumber, InvalidScenario, InvalidWeights,
-    NotAgreed)
+    InvalidDistribution, InvalidFamily, InvalidFraction, InvalidLot, InvalidNumber, InvalidScenario, InvalidSupport,
+    InvalidWeights, NotAgreed)
 from belltables.forms import (
-    has_rows, is_distribution_form, is_index, is_lot_of, is_scenario_form, wrong_chances, wrong_numbers)
+    has_rows, is_distribution_form, is_index, is_lot_of, is_scenario_form, wrong_chances, wrong_numbers,
+    wrong_sections)
 from belltables.ratios import is_share
 from belltables.shapes import is_agreed, is_within
 
@@ -31,6 +32,15 @@ def need_weights(scenario, weights):
     wrong = wrong_numbers(scenario, weights)
     if wrong is not None:
         raise InvalidWeights(wrong)
+
+
+def need_support(scenario, support):
+    """Refuses what is no support of the scenario."""
+    if not has_rows(scenario, support):
+        raise InvalidSupport(None)
+    wrong = wrong_sections(scenario, support)
+    if wrong is not None:
+        raise InvalidSupport(wrong)
 
 
 def need_distribution(scenario, distribution):

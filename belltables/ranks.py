@@ -1,21 +1,26 @@
-"""How many rows of whole numbers are linearly independent."""
+"""Which rows of whole numbers are linearly independent, and how many."""
 
 
 def rank_of(rows):
     """The rank of rows of whole numbers of one length."""
-    left = [row for row in rows if any(row)]
-    rank = 0
+    return len(independent(rows))
+
+
+def independent(rows):
+    """The indexes of rows, as many as their rank, that are linearly independent: an ascending list."""
+    left = [(at, row) for at, row in enumerate(rows) if any(row)]
+    found = []
     scale = 1
     while left:
-        lead = left[0]
+        first, lead = left[0]
         column = first_other(lead)
         # All numbers are determinants of the rows' numbers (Bareiss), so the divisions leave no remainder.
-        left = [[(number * lead[column] - row[column] * other) // scale for number, other in zip(row, lead)]
-                for row in left[1:]]
-        left = [row for row in left if any(row)]
+        left = [(at, [(number * lead[column] - row[column] * other) // scale for number, other in zip(row, lead)])
+                for at, row in left[1:]]
+        left = [(at, row) for at, row in left if any(row)]
         scale = lead[column]
-        rank += 1
-    return rank
+        found.append(first)
+    return found
 
 
 def first_other(row):

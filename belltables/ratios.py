@@ -50,6 +50,17 @@ def plus(one, two):
     return lowest(one[0] * two[1] + two[0] * one[1], one[1] * two[1])
 
 
+def mixed(share, one, two):
+    """The share of the first number and the rest of the second one."""
+    return plus(times(share, one), times(minus(ONE, share), two))
+
+
+def mixed_rows(share, one, two):
+    """The same for all numbers of rows of fractions, one by one."""
+    return tuple([tuple([mixed(share, number, beside) for number, beside in zip(first, second)])
+                  for first, second in zip(one, two)])
+
+
 def bottom_of(numbers):
     """The least common multiple of the denominators of fractions."""
     bottom = 1

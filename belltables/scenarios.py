@@ -3,7 +3,7 @@
 from belltables.forms import are_weights, is_distribution_form, is_family_form, is_scenario_form
 from belltables.guards import (
     need_context, need_distribution, need_family, need_lot, need_lot_within, need_scenario, need_share)
-from belltables.ratios import ONE, minus, plus, times
+from belltables.ratios import mixed_rows
 from belltables.shapes import family_by, is_agreed, marginal_of, sections_in
 
 
@@ -66,6 +66,4 @@ def mixture(scenario, one, two, share):
     need_family(scenario, one)
     need_family(scenario, two)
     need_share(share)
-    rest = minus(ONE, share)
-    return tuple([tuple([plus(times(share, number), times(rest, beside)) for number, beside in zip(first, second)])
-                  for first, second in zip(one, two)])
+    return mixed_rows(share, one, two)

@@ -47,6 +47,11 @@ def overlap(one, other):
     return tuple([observable for observable in one if observable in other])
 
 
+def pairs_of(many):
+    """The pairs of indexes of so many, the lesser one first, in order: a list."""
+    return [(one, other) for one in range(many) for other in range(one + 1, many)]
+
+
 def is_within(lot, other):
     """Whether all of the lot lies in the other one."""
     return all([observable in other for observable in lot])

@@ -264,3 +264,75 @@ def one_thing_wrong(row):
         (first, (True, 2)) + row[2:], ((0, True),) + rest, ((False, 1),) + rest, row + ((),), (row,), "", None,
         {at: number for at, number in enumerate(row)}, ((0, 2),) + rest, ((top, bottom), rest),
     ]
+
+
+def bent(value):
+    """Values that are like this one but for one thing, at any depth."""
+    if isinstance(value, tuple):
+        found = [list(value), (value,), value + (0,), value + ((),), {at: part for at, part in enumerate(value)}, None]
+        for at, inside in enumerate(value):
+            before, behind = value[:at], value[at + 1:]
+            found += [before + behind, before + (inside, inside) + behind]
+            if behind:
+                found.append(before + (behind[0], inside) + behind[1:])
+            found += [before + (other,) + behind for other in bent(inside)]
+        return found
+    if isinstance(value, bool) or value is None:
+        return [0, 1, "", ()]
+    if isinstance(value, int):
+        return [value + 1, value - 1, -value, value + 10, str(value), (value,), [value], None, bool(value), 10 ** 60]
+    return [value + "x", value[1:], value.upper(), value.encode(), (value,), [value], None, 0, "", value + " "]
+
+
+def is_int(value):
+    return type(value) is int
+
+
+def own_is_fraction(value):
+    return (type(value) is tuple and len(value) == 2 and is_int(value[0]) and is_int(value[1]) and value[1] > 0
+            and pair(Fraction(value[0], value[1])) == value)
+
+
+def own_is_row(value, many):
+    """A row of chances."""
+    return (type(value) is tuple and len(value) == many and all(own_is_fraction(number) for number in value)
+            and all(number[0] >= 0 for number in value) and sum(frac(number) for number in value) == 1)
+
+
+def own_is_section(scenario, lot, value):
+    return (type(value) is tuple and len(value) == len(lot) and all(is_int(outcome) for outcome in value)
+            and all(0 <= outcome < scenario[0][x] for outcome, x in zip(value, lot)))
+
+
+def own_is_support(scenario, value):
+    if type(value) is not tuple or len(value) != len(scenario[1]):
+        return False
+    for context, row in zip(scenario[1], value):
+        if type(row) is not tuple or not row or not all(own_is_section(scenario, context, told) for told in row):
+            return False
+        if list(row) != sorted(set(row)):
+            return False
+    return True
+
+
+def own_support(scenario, points):
+    """The sections that global assignments tell."""
+    return tuple(tuple(sorted({part(world, context) for world in points})) for context in scenario[1])
+
+
+def own_possible(scenario, support):
+    return [world for world in worlds(scenario)
+            if all(part(world, context) in row for context, row in zip(scenario[1], support))]
+
+
+def own_told(context, section, lot):
+    told = dict(zip(context, section))
+    return tuple(told[x] for x in lot)
+
+
+def own_consistent(scenario, support):
+    for (one, row), (two, other) in combinations(list(zip(scenario[1], support)), 2):
+        lot = tuple(x for x in one if x in two)
+        if {own_told(one, told, lot) for told in row} != {own_told(two, told, lot) for told in other}:
+            return False
+    return True

@@ -8,9 +8,13 @@ from belltables.fractions import contextual_fraction, covering, is_covering, non
 from belltables.games import classical_value, game_value, most_value, no_signalling_value
 from belltables.inequalities import dimension, greatest, is_facet, normal
 from belltables.joint import is_noncontextual, joint_or_inequality, local_bound, value
+from belltables.markings import bases_of, marking, odd_bases, orthogonal_pairs
+from belltables.parity import is_argument, parity_rows, solved_or_odd
+from belltables.possible import contextuality_of, extending, extension, family_with, hardy, is_consistent, non_extending
 from belltables.relabellings import canonical, led_inequality, relabellings
 from belltables.scenarios import (
     family_of, is_family, is_no_signalling, is_scenario, marginal, mixture, sections_of)
+from belltables.wirings import beside, beside_families, is_wiring, wired
 
 nil, one, half, quarter, third = (0, 1), (1, 1), (1, 2), (1, 4), (1, 3)
 bell = ((2, 2, 2, 2), ((0, 2), (0, 3), (1, 2), (1, 3)))
@@ -18,6 +22,10 @@ like, unlike = (half, nil, nil, half), (nil, half, half, nil)
 box, flat = (like, like, like, unlike), (quarter,) * 4
 chsh = ((one, (-1, 1), (-1, 1), one),) * 3 + (((-1, 1), one, one, (-1, 1)),)
 coin = ((2,), ((0,),))
+same, other_way = ((0, 0), (1, 1)), ((0, 1), (1, 0))
+signs = (same, same, same, other_way)
+paradox = (
+    ((0, 0), (0, 1), (1, 0), (1, 1)), ((0, 0), (1, 0), (1, 1)), ((0, 0), (0, 1), (1, 1)), ((0, 1), (1, 0), (1, 1)))
 
 
 class Examples(unittest.TestCase):
@@ -80,8 +88,55 @@ class Examples(unittest.TestCase):
         self.assertEqual(
             [len(relabellings(bell)), canonical(bell, (won, (3, 1))) == canonical(bell, led)], [128, True])
 
-    def test_mixture(self):
-        self.assertEqual(mixture(coin, ((one, nil),), ((nil, one),), third), (((1, 3), (2, 3)),))
+    def test_wirings(self):
+        first, then = ("tell", 0), ("tell", 1)
+        chase = ("measure", 0, (("measure", 2, (first, then)), ("measure", 3, (then, first))))
+        self.assertEqual(
+            [is_wiring(bell, coin, (chase,)), wired(bell, coin, (chase,), box),
+             is_wiring(bell, coin, (("measure", 0, (("measure", 1, (first, then)), first)),))],
+            [True, (((1, 1), (0, 1)),), False])
+        self.assertEqual(
+            [beside(coin, coin), beside_families(coin, ((half, half),), coin, ((third, (2, 3)),)),
+             mixture(coin, ((one, nil),), ((nil, one),), third)],
+            [((2, 2), ((0, 1),)), (((1, 6), (1, 3), (1, 6), (1, 3)),), (((1, 3), (2, 3)),)])
+
+    def test_possible(self):
+        self.assertEqual(
+            [contextuality_of(bell, signs), extending(bell, signs), is_consistent(bell, signs),
+             family_with(bell, signs) == ("family", ((half, nil, nil, half),) * 3 + ((nil, half, half, nil),))],
+            ['strongly contextual', (), True, True])
+        self.assertEqual(
+            [contextuality_of(bell, paradox), non_extending(bell, paradox), extension(bell, paradox, 0, (0, 1)),
+             hardy(bell, paradox)],
+            ['logically contextual', ((0, (0, 0)),), (0, 1, 1, 0), ((0, (0, 0), (0,), (0,)),)])
+        self.assertEqual(
+            [family_with(bell, paradox)[0], family_with(bell, (same, same, same, ((0, 0), (0, 1), (1, 1))))[0],
+             contextuality_of(bell, (same,) * 4)],
+            ['family', 'barred', 'extends everywhere'])
+
+    def test_parity(self):
+        self.assertEqual(
+            [parity_rows(bell, signs)[3], parity_rows(bell, paradox), solved_or_odd(bell, (same,) * 4)[0]],
+            [(3, (1, 3), 1), (), 'solved'])
+        told = solved_or_odd(bell, signs)
+        self.assertEqual(told, ('odd', ((0, (0, 2), 0), (1, (0, 3), 0), (2, (1, 2), 0), (3, (1, 3), 1))))
+        self.assertIs(is_argument(bell, told[1]), True)
+
+    def test_markings(self):
+        axes = ((1, 0, 0), (0, 1, 0), (0, 0, 1), (1, 1, 0))
+        self.assertEqual(
+            [orthogonal_pairs(axes), bases_of(axes), marking(axes)[0], odd_bases(axes)],
+            [((0, 1), (0, 2), (1, 2), (2, 3)), ((0, 1, 2),), 'marked', None])
+        cabello = (
+            (0, 0, 0, 1), (0, 0, 1, 0), (1, 1, 0, 0), (1, -1, 0, 0), (0, 1, 0, 0), (1, 0, 1, 0), (1, 0, -1, 0),
+            (1, -1, 1, -1), (1, -1, -1, 1), (0, 0, 1, 1), (1, 1, 1, 1), (0, 1, 0, -1), (1, 0, 0, 1), (1, 0, 0, -1),
+            (0, 1, -1, 0), (1, 1, -1, 1), (1, 1, 1, -1), (-1, 1, 1, 1))
+        self.assertEqual(
+            [len(orthogonal_pairs(cabello)), len(bases_of(cabello)), odd_bases(cabello) == bases_of(cabello),
+             marking(cabello)[0]],
+            [63, 9, True, 'none'])
+
+    def test_family_of(self):
         self.assertEqual(family_of(coin, (third, (2, 3))), ((third, (2, 3)),))
 
 
