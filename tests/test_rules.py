@@ -21,6 +21,14 @@ KNOWN = set(
     "NotImplemented iter next map property staticmethod classmethod super object float".split())
 BARRED = {"register", "mro", "elements", "open", "input", "law", "version_info", "with_traceback", "add_note"}
 WORDS = {"typing", "enum", "Enum", "Generic", "Protocol", "ABC", "namedtuple", "NamedTuple", "TypedDict"}
+METHODS = set(
+    "append clear copy count endswith extend find get index insert isalnum isalpha isdigit islower isspace isupper items "
+    "join keys ljust lower lstrip partition pop remove replace reverse rfind rjust rpartition rsplit rstrip setdefault "
+    "split splitlines startswith strip update upper values zfill bit_length".split())
+CHANGING = {"append", "clear", "extend", "insert", "pop", "remove", "reverse", "setdefault", "update"}
+AT_ONCE = {"list", "tuple", "dict", "sorted", "sum", "any", "all", "enumerate", "zip", "min", "max", "reversed", "len",
+           "permutations"}
+STORED = {"zip", "enumerate", "reversed", "range", "map"}
 MODULE_LEVEL = (ast.ImportFrom, ast.FunctionDef, ast.ClassDef, ast.Assign)
 STATEMENTS = MODULE_LEVEL + (
     ast.AugAssign, ast.AnnAssign, ast.If, ast.While, ast.For, ast.Return, ast.Break, ast.Continue, ast.Pass, ast.Raise,
@@ -123,6 +131,59 @@ class Rules(unittest.TestCase):
                 if isinstance(node, ast.Attribute):
                     self.assertNotIn(node.attr, BARRED)
                     self.assertFalse(node.attr.startswith("__") and node.attr != "__init__", (path, node.lineno))
+
+    def test_imports_are_used(self):
+        for path, tree in self.trees.items():
+            used = {node.id for node in ast.walk(tree) if isinstance(node, ast.Name)}
+            for node in tree.body:
+                if isinstance(node, ast.ImportFrom):
+                    self.assertLessEqual({alias.name for alias in node.names}, used, path)
+
+    def test_methods(self):
+        """Methods are those of the list, or own ones; without keywords and stars."""
+        own = {node.name for tree in self.trees.values() for each in tree.body if isinstance(each, ast.ClassDef)
+               for node in each.body if isinstance(node, ast.FunctionDef)}
+        for path, tree in self.trees.items():
+            for node in ast.walk(tree):
+                if isinstance(node, ast.Call) and isinstance(node.func, ast.Attribute):
+                    self.assertIn(node.func.attr, METHODS | own, (path, node.lineno))
+                    self.assertFalse(node.keywords, (path, node.lineno))
+                    self.assertFalse(any(isinstance(each, ast.Starred) for each in node.args), (path, node.lineno))
+
+    def test_is(self):
+        for path, tree in self.trees.items():
+            for node in ast.walk(tree):
+                if isinstance(node, ast.Compare):
+                    for sign, other in zip(node.ops, node.comparators):
+                        if isinstance(sign, (ast.Is, ast.IsNot)):
+                            self.assertTrue(isinstance(other, ast.Constant) and other.value in (None, True, False),
+                                            (path, node.lineno))
+
+    def test_iterated_at_once(self):
+        for path, tree in self.trees.items():
+            above = {below: node for node in ast.walk(tree) for below in ast.iter_child_nodes(node)}
+            for node in ast.walk(tree):
+                self.assertNotIsInstance(node, (ast.GeneratorExp, ast.Yield, ast.NamedExpr, ast.Global), path)
+                if isinstance(node, ast.Call) and isinstance(node.func, ast.Name) and node.func.id in STORED:
+                    user = above[node]
+                    looped = isinstance(user, (ast.For, ast.comprehension)) and user.iter is node
+                    called = isinstance(user, ast.Call) and isinstance(user.func, ast.Name) and user.func.id in AT_ONCE
+                    self.assertTrue(looped or called, (path, node.lineno))
+
+    def test_loops(self):
+        """What a loop iterates over is not changed in it."""
+        for path, tree in self.trees.items():
+            for loop in ast.walk(tree):
+                if not isinstance(loop, ast.For):
+                    continue
+                source = loop.iter
+                if isinstance(source, ast.Call) and isinstance(source.func, ast.Name) and source.func.id == "list":
+                    continue
+                names = {node.id for node in ast.walk(source) if isinstance(node, ast.Name)}
+                for node in [node for row in loop.body for node in ast.walk(row)]:
+                    if isinstance(node, ast.Call) and isinstance(node.func, ast.Attribute) and (
+                            node.func.attr in CHANGING and isinstance(node.func.value, ast.Name)):
+                        self.assertNotIn(node.func.value.id, names, (path, node.lineno))
 
     def test_sets(self):
         """A set is not iterated."""
