@@ -37,8 +37,7 @@ def narrowest(neighbours, bases, ones, zeros):
 
     If all bases have a 1, all other vectors may be marked 0.
     """
-    is_shut = [at in zeros or at in ones or any([other in ones for other in beside])
-               for at, beside in enumerate(neighbours)]
+    is_shut = [at in zeros or any([other in ones for other in beside]) for at, beside in enumerate(neighbours)]
     found = None
     for basis in bases:
         if not any([at in ones for at in basis]):

@@ -39,13 +39,19 @@ def cursor_at(lines, at):
     return Cursor(at, lines[at])
 
 
+def read_several(cursor, reader, between, most):
+    """What a function reads, as often as it stands there with these signs between each two: a list."""
+    found = [reader(cursor)]
+    while len(found) < most and cursor.stands(between[0]):
+        cursor.need(between)
+        found.append(reader(cursor))
+    return found
+
+
 def read_observables(cursor):
     """The pairs (NAME, SIZE) of the first line, NAME a placed word, SIZE a digit: a list."""
     cursor.need("observables ")
-    found = [read_observable(cursor)]
-    while len(found) < MOST_NAMES and cursor.stands(","):
-        cursor.need(", ")
-        found.append(read_observable(cursor))
+    found = read_several(cursor, read_observable, ", ", MOST_NAMES)
     cursor.need_end()
     return found
 
@@ -60,21 +66,14 @@ def read_observable(cursor):
 def read_groups(cursor):
     """The groups of the second line: a list."""
     cursor.need("contexts ")
-    found = [read_group(cursor)]
-    while len(found) < MOST_GROUPS and cursor.stands(";"):
-        cursor.need("; ")
-        found.append(read_group(cursor))
+    found = read_several(cursor, read_group, "; ", MOST_GROUPS)
     cursor.need_end()
     return found
 
 
 def read_group(cursor):
     """The placed names of a group: a list."""
-    found = [read_name(cursor)]
-    while len(found) < MOST_NAMES and cursor.stands(" "):
-        cursor.need(" ")
-        found.append(read_name(cursor))
-    return found
+    return read_several(cursor, read_name, " ", MOST_NAMES)
 
 
 def read_block(lines, at, many):
@@ -131,12 +130,9 @@ def read_group_ahead(cursor):
 
 def read_words(cursor):
     """Parts (WORD, None) for words of outcomes up to the line's end: a list."""
-    found = [(read_outcomes(cursor), None)]
-    while len(found) < MOST_PARTS and cursor.stands(" "):
-        cursor.need(" ")
-        found.append((read_outcomes(cursor), None))
+    words = read_several(cursor, read_outcomes, " ", MOST_PARTS)
     cursor.need_end()
-    return found
+    return [(word, None) for word in words]
 
 
 def read_parts(cursor, with_rest, signed):

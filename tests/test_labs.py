@@ -293,6 +293,17 @@ class Terms(Case):
         self.assertIs(is_term(lab, ("mix", HALF, ("name", "t2"), turns(32, ("name", "t2")))), True)
         self.assertIs(is_term(lab, ("mix", HALF, ("name", "t2"), turns(33, ("name", "t2")))), False)
 
+    def test_families_by_name(self):
+        """The name of a family counts as one term."""
+        many = ("name", "box")
+        for _ in range(19):
+            many = ("mix", HALF, ("name", "box"), many)
+        things = THINGS[:1] + (("t1", "term", many), ("t2", "term", ("mix", HALF, ("name", "t1"), ("name", "t1"))))
+        for more in (35, 36, 37):
+            term = ("mix", HALF, ("name", "t2"), turns(more, ("name", "t2")))
+            self.assertIs(is_term((NAMES, BELL, things), term), more <= 36)
+            self.assertIs(is_lab((NAMES, BELL, things + (("t3", "term", term),))), more <= 36)
+
     def test_one_term_in_many_places(self):
         term = EVEN
         for _ in range(18):

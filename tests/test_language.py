@@ -179,6 +179,10 @@ class Forms(Reading):
                 self.assertEqual(self.agrees(f"{head}{kind} k\n{line[:-4]}rest"), "lab")
                 self.assertEqual(self.agrees(f"{head}joint k: {line[13:]}"), "lab")
                 self.fails(f"{head}joint k: {line[13:]}{more}", ("InvalidText", 2, len(line) - 4))
+        begin = len("a b c d e f ")
+        for line in ("a b c d e f g 1: none", "a b c d e f -1: none", "a b c d e f a", "a b c d e f "):
+            self.fails(f"{head}game k\n{line}", ("InvalidText", 3, begin))
+        self.fails(f"{head}game k\na b c d e -1: none", ("InvalidText", 3, begin - 2))
         blocks = [f"n{at} = even" for at in range(20)]
         self.assertEqual(self.agrees(head + "\n".join(blocks)), "lab")
         self.fails(head + "\n".join(blocks + ["more = even"]), ("InvalidText", 22, 0))
@@ -276,6 +280,12 @@ class Meaning(Reading):
                            ("t3 = mix 1 t2 " + "turn a 10 " * 32 + "t2", 201), ("t3 = " + "turn a 10 " * 41 + "t2", 42)):
             word = self.agrees("\n".join(head + [last]))
             self.assertEqual(word, "InvalidTerm" if told > 200 or told == 42 else "lab", last)
+
+    def test_families_by_name(self):
+        """The name of a family counts as one term: 39, 81, then 200 and 201."""
+        head = LINES[:13] + ["t1 = " + "mix 1/2 box " * 19 + "box", "t2 = mix 1/2 t1 t1"]
+        self.assertEqual(self.agrees("\n".join(head + ["t3 = mix 0 t2 " + "turn a 10 " * 35 + "t2"])), "lab")
+        self.fails("\n".join(head + ["t3 = mix 0 t2 " + "turn a 10 " * 36 + "t2"]), ("InvalidTerm", 201))
 
     def test_first_of_several(self):
         """Line by line, word by word."""

@@ -139,7 +139,8 @@ class Arguments(Case):
                     None, (), 0, "row", (0, (0, 2), None), (0, "02", 0), (0, (0, 2, 4), 0), (4, (0, 2), 0)):
             self.assertIs(is_argument(BELL, (row, *rest)), False, row)
         for wrong in ((), ARGUMENT[1:], ARGUMENT[:3], ARGUMENT[::-1], list(ARGUMENT), ARGUMENT + ARGUMENT[3:],
-                      (first, first, *ARGUMENT), (ARGUMENT,), None, ARGUMENT[:3] + ((3, (1, 3), 0),)):
+                      (first, first, *ARGUMENT), (ARGUMENT,), None, ARGUMENT[:3] + ((3, (1, 3), 0),),
+                      ((0, (), 1),), ((0, (), 0), *ARGUMENT), ((0, (), 1), (0, (0, 2), 0), (1, (0, 3), 0))):
             self.assertIs(is_argument(BELL, wrong), False, wrong)
 
     def test_bent(self):

@@ -363,6 +363,13 @@ class Tables(Case):
                 self.assertEqual(pauli_rows(state, paulis, lines), rows)
                 self.assertEqual(self.judge(family_or_odd(state, paulis, lines), rows, len(paulis)), "odd")
 
+    def test_one_operator(self):
+        for letters in ("X", "ZI", "YYX"):
+            self.assertEqual(valued_or_odd(((-1, letters),), ((0,),)), ("solved", (0,)))
+        self.assertEqual(pauli_rows(((1, "Z"),), ((-1, "Z"),), ((0,),)), ((0, (0,), 1),))
+        self.assertEqual(family_or_odd(((1, "Z"),), ((-1, "Z"),), ((0,),)), ("solved", (1,)))
+        self.assertEqual(pauli_family(((1, "Z"),), ((-1, "Z"),), ((0,),)), (((0, 1), (1, 1)),))
+
     def test_alone_drawn(self):
         maker = Maker(140)
         words = {}
