@@ -16,11 +16,13 @@ NO_WIRING = given(errors.InvalidWiring, [
     (CHASE,), (CHASE, READ, READ), [CHASE, READ], None, (), (CHASE, ("tell", 2)), (CHASE, ("measure", 3, (FIRST,))),
     (("measure", 0, (FIRST, THEN)), ("measure", 1, (FIRST, THEN))), 0, "tell"])
 NO_SUPPORT = indexed(errors.InvalidSupport, [
-    (SIGNS[:3], None), (list(SIGNS), None), (None, None), (0, None), ("abcd", None), (SIGNS + (SAME,), None), ((), None),
+    (SIGNS[:3], None), (list(SIGNS), None), (None, None), (0, None), ("abcd", None), (SIGNS + (SAME,), None),
+    ((), None),
     (((),) + SIGNS[1:], 0), ((SAME, SAME[::-1]) + SIGNS[2:], 1), (SIGNS[:3] + (((0, 2),),), 3),
     (SIGNS[:2] + (((0, 0), (0, 0)), ()), 2), ((SAME, list(SAME), None, None), 1), ((SAME, SAME, ((0, True),), 1), 2)])
 NO_SECOND = indexed(errors.InvalidFamily, [
-    (None, None), ((), None), (BOX, None), ([(ONE, NIL)], None), (((ONE, ONE),), 0), (((ONE,),), 0), (([ONE, NIL],), 0)])
+    (None, None), ((), None), (BOX, None), ([(ONE, NIL)], None), (((ONE, ONE),), 0), (((ONE,),), 0),
+    (([ONE, NIL],), 0)])
 NO_CONTEXT = given(errors.InvalidNumber, [4, -1, True, False, None, "0", (0,), 10 ** 30, []])
 WIDE = ((3, 2), ((0, 1),))
 WHOLE = ((4, 4, 4), ((0, 1, 2),))

@@ -173,7 +173,8 @@ class Examples(Case):
             "observables a 2, b 2, x 2, y 2", "contexts x a; a y; b x; y b", "family box", "a x: 00 1/2, 11 rest",
             "b y: 01 1/2, 10 1/2", "y a: 11 2/4, 00 rest", "b x: 00 1/2, 11 1/2"]
         rows = rows + [
-            "joint coin: 0000 1/2, 1111 rest", "noisy = mix 1/2 box even", "tame = mix 1/3 of coin turn x 10 point 0100"]
+            "joint coin: 0000 1/2, 1111 rest", "noisy = mix 1/2 box even",
+            "tame = mix 1/3 of coin turn x 10 point 0100"]
         return read_lab("\n".join(rows))
 
     def test_labs(self):

@@ -232,7 +232,8 @@ class Labs(Case):
     def test_bent(self):
         told = {True: 0, False: 0}
         small = (("a", "b"), ((2, 2), ((0, 1),)), (
-            ("f", "family", (LIKE,)), ("j", "joint", LIKE), ("w", "weights", (LIKE,)), ("g", "game", ((ONE,), ((1, 0, 0, 1),))),
+            ("f", "family", (LIKE,)), ("j", "joint", LIKE), ("w", "weights", (LIKE,)),
+            ("g", "game", ((ONE,), ((1, 0, 0, 1),))),
             ("t", "term", ("mix", (1, 3), ("of", "j"), ("turn", 1, (1, 0), ("name", "f")))),
             ("u", "term", ("mix", ONE, ("name", "t"), ("point", (0, 1))))))
         self.assertIs(is_lab(small), True)
@@ -264,11 +265,14 @@ class Terms(Case):
     def test_wrong(self):
         for term in (("even", 0), ("Even",), "even", ["even"], (EVEN,), (), ("point",), ("point", (0, 0, 0)),
                      ("point", (0, 0, 0, 2)), ("point", (0, 0, 0, True)), ("point", [0, 0, 0, 0]), ("of",),
-                     ("of", "coin", "coin"), ("name", "nobody"), ("mix", (3, 2), EVEN, EVEN), ("mix", (-1, 2), EVEN, EVEN),
-                     ("mix", 1, EVEN, EVEN), ("mix", (2, 4), EVEN, EVEN), ("mix", HALF, EVEN), ("mix", HALF, EVEN, EVEN, EVEN),
+                     ("of", "coin", "coin"), ("name", "nobody"), ("mix", (3, 2), EVEN, EVEN),
+                     ("mix", (-1, 2), EVEN, EVEN),
+                     ("mix", 1, EVEN, EVEN), ("mix", (2, 4), EVEN, EVEN), ("mix", HALF, EVEN),
+                     ("mix", HALF, EVEN, EVEN, EVEN),
                      ("turn", 4, (0, 1), EVEN), ("turn", -1, (0, 1), EVEN), ("turn", True, (0, 1), EVEN),
                      ("turn", 0, (0, 0), EVEN), ("turn", 0, (0, 1, 2), EVEN), ("turn", 0, (0,), EVEN),
-                     ("turn", 0, (False, 1), EVEN), ("turn", 0, [0, 1], EVEN), ("turn", 0, (0, 1)), ("turn", 0, (0, 1), "even"),
+                     ("turn", 0, (False, 1), EVEN), ("turn", 0, [0, 1], EVEN), ("turn", 0, (0, 1)),
+                     ("turn", 0, (0, 1), "even"),
                      ("turn", "a", (0, 1), EVEN), ("mix", HALF, ("of", "box"), EVEN), ("rest",), ("none",)):
             self.assertIs(is_term(LAB, term), False, term)
 
@@ -325,7 +329,8 @@ class Terms(Case):
         for value in any_values():
             self.assertIs(is_term(LAB, value), False)
             for wrong in (("mix", HALF, value, EVEN), ("mix", value, EVEN, EVEN), ("turn", 0, (1, 0), value),
-                          ("turn", value, (1, 0), EVEN), ("turn", 0, value, EVEN), ("point", value), (value, HALF, EVEN, EVEN)):
+                          ("turn", value, (1, 0), EVEN), ("turn", 0, value, EVEN), ("point", value),
+                          (value, HALF, EVEN, EVEN)):
                 found = own_term(BELL, {}, {}, wrong)
                 self.assertIs(is_term(LAB, wrong), found is not None, wrong)
 
@@ -418,7 +423,8 @@ class Standing(Case):
 class Calls(Case):
     def test_all(self):
         wrong = given(errors.InvalidLab, [
-            None, (), list(LAB), LAB[:2], (NAMES, BELL, list(THINGS)), (NAMES[:3], BELL, THINGS), (NAMES, BELL, THINGS[1:]),
+            None, (), list(LAB), LAB[:2], (NAMES, BELL, list(THINGS)), (NAMES[:3], BELL, THINGS),
+            (NAMES, BELL, THINGS[1:]),
             "lab", 0, {}, (NAMES, BELL, THINGS + THINGS[:1])])
         for function in (is_lab,):
             for value in (LAB, list(LAB), None, {}, [[]]):

@@ -160,7 +160,8 @@ class Forms(Reading):
         six = ", ".join(f"{name} 2" for name in names[:6])
         told = self.agrees(f"observables {six}\ncontexts a b c d e f")
         self.assertEqual(told, "lab")
-        self.fails(f"observables {six}, g 2\ncontexts a b c d e f g", ("InvalidText", 0, len("observables ") + len(six)))
+        self.fails(f"observables {six}, g 2\ncontexts a b c d e f g",
+                   ("InvalidText", 0, len("observables ") + len(six)))
         self.fails(f"observables {six}\ncontexts a b c d e f g", ("InvalidText", 1, len("contexts a b c d e f")))
         groups = "; ".join(f"{x} {y} {z}" for at, x in enumerate(names) for to, y in enumerate(names[:6]) if to > at
                            for z in names[to + 1:6])
@@ -276,8 +277,10 @@ class Meaning(Reading):
         self.assertEqual(self.agrees("\n".join(head + ["t3 = mix 0 t2 t2"])), "lab")
         for last, told in (("t3 = mix 0 t2 mix 1 t2 t1", 212), ("t3 = mix 0 t2 mix 1 t1 t1", 169),
                            ("t3 = mix 1 t2 " + "turn a 10 " * 38 + "t2", 169 + 38),
-                           ("t3 = mix 1 t2 " + "turn a 10 " * 30 + "t2", 199), ("t3 = mix 1 t2 " + "turn a 10 " * 31 + "t2", 200),
-                           ("t3 = mix 1 t2 " + "turn a 10 " * 32 + "t2", 201), ("t3 = " + "turn a 10 " * 41 + "t2", 42)):
+                           ("t3 = mix 1 t2 " + "turn a 10 " * 30 + "t2", 199),
+                           ("t3 = mix 1 t2 " + "turn a 10 " * 31 + "t2", 200),
+                           ("t3 = mix 1 t2 " + "turn a 10 " * 32 + "t2", 201),
+                           ("t3 = " + "turn a 10 " * 41 + "t2", 42)):
             word = self.agrees("\n".join(head + [last]))
             self.assertEqual(word, "InvalidTerm" if told > 200 or told == 42 else "lab", last)
 
@@ -352,7 +355,8 @@ def drawn_term(maker, scenario, known, deep):
         return (word, draw.choice(joints if word == "of" else named))
     if word == "mix":
         share = maker.row(2)[0]
-        return ("mix", share, drawn_term(maker, scenario, known, deep - 1), drawn_term(maker, scenario, known, deep - 1))
+        return ("mix", share, drawn_term(maker, scenario, known, deep - 1),
+                drawn_term(maker, scenario, known, deep - 1))
     if word == "turn":
         x = draw.randrange(len(scenario[0]))
         outcomes = tuple(draw.sample(range(scenario[0][x]), scenario[0][x]))
@@ -451,14 +455,16 @@ class Printing(Reading):
         def row(number):
             return ((number, (number[1] - number[0], number[1])),)
 
-        fine = lab(("family", row((1, most))), ("joint", row((most - 1, most))[0]), ("weights", (((-most, 1), (most, most - 1)),)),
+        fine = lab(("family", row((1, most))), ("joint", row((most - 1, most))[0]),
+                   ("weights", (((-most, 1), (most, most - 1)),)),
                    ("game", (((1, 1),), ((0, 1),))), ("term", ("mix", (1, most), ("even",), ("even",))))
         self.assertEqual(read_lab(lab_text(fine)), fine)
         self.assertEqual(lab_text(fine), own_text(fine))
         two = ((2, 2), ((0,), (1,)))
         for wrong, number in (
                 (lab(("family", row((1, more)))), (1, more)), (lab(("joint", row((3, more + 1))[0])), (3, more + 1)),
-                (lab(("weights", ((NIL, (more, 1)),))), (more, 1)), (lab(("weights", (((-more, 7), NIL),))), (-more, 7)),
+                (lab(("weights", ((NIL, (more, 1)),))), (more, 1)),
+                (lab(("weights", (((-more, 7), NIL),))), (-more, 7)),
                 (lab(("term", ("mix", (7, more), ("even",), ("even",)))), (7, more)),
                 (lab(("term", ("mix", (1, 2), ("mix", (1, more), ("even",), ("even",)),
                                ("mix", (3, more), ("even",), ("even",))))), (1, more)),

@@ -150,7 +150,8 @@ class Runs(Case):
             self.refuses((errors.InvalidRounds, "index", None), function, BELL, second, ((1, 2),) * 401)
 
     def test_rounds(self):
-        for value in bent(ROUNDS) + [ROUNDS + ((4, 0),), ROUNDS + ((-1, 0),), ((0, 0, 0),), ((0,),), (0, 0), "ab", ((),)]:
+        for value in bent(ROUNDS) + [ROUNDS + ((4, 0),), ROUNDS + ((-1, 0),), ((0, 0, 0),), ((0,),), (0, 0), "ab",
+                                     ((),)]:
             wrong = first_wrong(lambda told: own_is_round(BELL, told), value)
             for function, second in ((play, BOX), (play_joint, DISTRIBUTION)):
                 if wrong is True:

@@ -391,7 +391,8 @@ MANY = tuple((1, "".join(told)) for told in product("IXYZ", repeat=3))[1:]
 NO_PAULIS = indexed(errors.InvalidPaulis, [
     ((), None), (MANY[:17], None), (None, None), (list(SIDES), None), (SIDES[:5] + ((1, "III"),), 5),
     (SIDES[:5] + ((-1, "XII"),), 5), (SIDES[:5] + ((1, "XI"),), 5), (SIDES[:4] + ((0, "XII"), 7), 4),
-    (((1, "XIII"),) + SIDES[1:], 0), (((-1, "III"),) + SIDES[1:], 0), (SIDES[:2] + (None,) + SIDES[3:], 2), ("XX", None),
+    (((1, "XIII"),) + SIDES[1:], 0), (((-1, "III"),) + SIDES[1:], 0), (SIDES[:2] + (None,) + SIDES[3:], 2),
+    ("XX", None),
     ((5,) * 16, 0), ((5,) * 17, None)])
 NO_CONTEXTS = indexed(errors.InvalidContexts, [
     ((), None), (None, None), (list(TESTS), None), (0, None), (TESTS[:3] + ((2, 3, 6),), 3), (((),) + TESTS, 0),
