@@ -16,6 +16,16 @@ def solution_or_argument(rows, many):
     return (ODD, tuple([rows[place] for place in places]))
 
 
+def are_solved(rows, outcomes):
+    """Whether outcomes, one for each observable, solve all parity rows."""
+    return all([sum([outcomes[observable] for observable in lot]) % 2 == parity for _, lot, parity in rows])
+
+
+def is_argument_of(scenario, rows, value):
+    """Whether a value, whatever it is, is an all-versus-nothing argument of these parity rows."""
+    return is_argument_form(scenario, value) and all([row in rows for row in value])
+
+
 def is_parity_row(scenario, value):
     """Whether a value, whatever it is, is a parity row of the scenario's contexts."""
     if not is_tuple_of(value, 3) or not is_index(value[0], len(scenario[1])):

@@ -1,7 +1,8 @@
 """No-signalling families with just a given support, or balances that show that there is none (Stiemke's lemma)."""
 
+from belltables.handing import are_handed, received
 from belltables.ranks import independent
-from belltables.ratios import ZERO, lowest, lowest_row
+from belltables.ratios import ZERO, lowest, lowest_row, over_one
 from belltables.shapes import many_sections, overlap, pairs_of, place_of, sizes_of
 from belltables.simplex import solve
 from belltables.supports import told_of
@@ -30,6 +31,18 @@ def family_or_balance(scenario, support):
         return (BARRED, balance_by(scenario, {lines[at][0]: lowest(number, scale)
                                               for at, number in zip(used, balance)}))
     return (FAMILY, family_on(scenario, support, [price + scale for price in prices[:-1]]))
+
+
+def is_balance(scenario, support, value):
+    """Whether a value, whatever it is, is a balance with all gains from 0 on, one at least above 0."""
+    if not are_handed(scenario, value):
+        return False
+    rows, _ = over_one(value)
+    gains = []
+    for context, sections, row in zip(scenario[1], support, received(scenario, rows)):
+        sizes = sizes_of(scenario, context)
+        gains = gains + [row[place_of(sizes, section)] for section in sections]
+    return min(gains) >= 0 and max(gains) > 0
 
 
 def both_ways(line, sign):

@@ -4,9 +4,10 @@ from belltables.bounds import greatest_no_signalling
 from belltables.errors import InvalidGame
 from belltables.forms import has_rows, is_chance_row, is_row, is_tuple_of
 from belltables.guards import need_agreed, need_family, need_scenario
+from belltables.handing import are_handed, received
 from belltables.parts import greatest_part
 from belltables.ratios import ZERO, is_whole, mixed, over_one, product_sum
-from belltables.shapes import many_sections, overlap, pairs_of, tellings
+from belltables.shapes import many_sections
 from belltables.tops import first_greatest
 
 
@@ -75,35 +76,17 @@ def is_bound_of(scenario, game, value):
 
 def is_bound_form(scenario, value):
     """Whether a value, whatever it is, is a no-signalling bound of the scenario."""
-    contexts = scenario[1]
-    pairs = pairs_of(len(contexts))
-    if not is_tuple_of(value, 2) or not is_row(value[0], len(contexts)) or not is_tuple_of(value[1], len(pairs)):
-        return False
-    lots = [overlap(contexts[one], contexts[other]) for one, other in pairs]
-    return all([is_row(row, many_sections(scenario, lot)) for row, lot in zip(value[1], lots)])
+    return is_tuple_of(value, 2) and is_row(value[0], len(scenario[1])) and are_handed(scenario, value[1])
 
 
 def keeps_lines(scenario, weights, bound):
     """Whether no section of a context has more by the weights than the bound has for it."""
     rows, _ = over_one([*weights, bound[0], *bound[1]])
     many = len(weights)
-    handed = {pair: row for pair, row in zip(pairs_of(many), rows[many + 1:])}
-    for at, row in enumerate(rows[:many]):
-        if any([number > most for number, most in zip(row, most_row(scenario, at, rows[many][at], handed))]):
+    for row, number, more in zip(rows[:many], rows[many], received(scenario, rows[many + 1:])):
+        if any([worth > number + other for worth, other in zip(row, more)]):
             return False
     return True
-
-
-def most_row(scenario, at, number, handed):
-    """What a bound has for the sections of the context of this index: a list."""
-    contexts = scenario[1]
-    row = [number] * many_sections(scenario, contexts[at])
-    for other, context in enumerate(contexts):
-        if other != at:
-            places = tellings(scenario, contexts[at], overlap(contexts[at], context))
-            sign, pair = (1, (at, other)) if other > at else (-1, (other, at))
-            row = [so_far + sign * handed[pair][place] for so_far, place in zip(row, places)]
-    return row
 
 
 def most_value(scenario, game, family):

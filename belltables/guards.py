@@ -6,8 +6,10 @@ from belltables.errors import (
 from belltables.forms import (
     has_rows, is_distribution_form, is_index, is_lot_of, is_scenario_form, wrong_chances, wrong_numbers,
     wrong_sections)
-from belltables.ratios import is_share
+from belltables.ratios import is_fraction, is_share
 from belltables.shapes import is_agreed, is_within
+
+MOST_COUNT = 100
 
 
 def need_scenario(scenario):
@@ -66,6 +68,18 @@ def need_lot_within(scenario, lot, context):
     need_lot(scenario, lot)
     if not is_within(lot, scenario[1][context]):
         raise InvalidLot(lot)
+
+
+def need_count(number):
+    """Refuses what is no whole number from 0 to 100."""
+    if not is_index(number, MOST_COUNT + 1):
+        raise InvalidNumber(number)
+
+
+def need_fraction(number):
+    """Refuses what is no fraction."""
+    if not is_fraction(number):
+        raise InvalidFraction(number)
 
 
 def need_share(share):

@@ -121,6 +121,13 @@ def log_chance(scenario, family, log):
     return lowest(top, bottom)
 
 
+def is_likeliest(scenario, log, family):
+    """Whether no family makes the log likelier: its tables are the family's rows."""
+    found = tables(scenario, log)
+    need_family(scenario, family)
+    return all([table is None or table == row for table, row in zip(found, family)])
+
+
 def gaps(scenario, log):
     """Triples (ONE, OTHER, GAP) for each two contexts that come, in order."""
     rows = tables(scenario, log)

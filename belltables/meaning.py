@@ -14,13 +14,19 @@ def lab_told(observables, groups, blocks):
     scenario = scenario_told(names, observables, groups)
     known = {}
     things = []
-    for line, kind, (place, name), told in blocks:
-        if name in names or name in known:
-            raise TwiceNamed(line, place)
-        thing = (name, kind, value_told(names, scenario, known, (line, kind, told)))
+    for block in blocks:
+        thing = thing_told(names, scenario, known, block)
         known = known_with(scenario, known, thing)
         things.append(thing)
     return (names, scenario, tuple(things))
+
+
+def thing_told(names, scenario, known, block):
+    """The thing that a block tells, behind those known."""
+    line, kind, (place, name), told = block
+    if name in names or name in known:
+        raise TwiceNamed(line, place)
+    return (name, kind, value_told(names, scenario, known, (line, kind, told)))
 
 
 def names_told(observables):

@@ -118,7 +118,12 @@ def pauli_scenario(paulis, contexts):
     need_paulis(paulis)
     need_contexts(paulis, contexts)
     need_few(paulis)
-    return (tuple([2 for _ in paulis]), contexts)
+    return (two_each(paulis), contexts)
+
+
+def two_each(paulis):
+    """How many outcomes the Paulis have."""
+    return tuple([2 for _ in paulis])
 
 
 def pauli_family(state, paulis, contexts):
@@ -172,4 +177,9 @@ def valued_or_odd(paulis, contexts):
     """("solved", OUTCOMES), which solve the parity rows of the Paulis alone, or ("odd", ROWS), an argument."""
     need_paulis(paulis)
     need_contexts(paulis, contexts)
-    return solution_or_argument(rows_by({nothing_of(len(paulis[0][1])): 1}, paulis, contexts), len(paulis))
+    return solution_or_argument(rows_alone(paulis, contexts), len(paulis))
+
+
+def rows_alone(paulis, contexts):
+    """The parity rows of the Paulis alone, in order: a list."""
+    return rows_by({nothing_of(len(paulis[0][1])): 1}, paulis, contexts)

@@ -50,6 +50,11 @@ def plus(one, two):
     return lowest(one[0] * two[1] + two[0] * one[1], one[1] * two[1])
 
 
+def is_less(one, two):
+    """Whether the first fraction is below the second one."""
+    return one[0] * two[1] < two[0] * one[1]
+
+
 def mixed(share, one, two):
     """The share of the first number and the rest of the second one."""
     return plus(times(share, one), times(minus(ONE, share), two))

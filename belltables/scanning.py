@@ -74,20 +74,24 @@ def read_row(cursor):
     return int(cursor.run(DIGITS[1:], DIGITS, LONGEST_ROW))
 
 
+def read_whole(cursor):
+    """The number of a row of digits that does not begin with 0, or of 0 alone."""
+    if cursor.stands("0"):
+        cursor.need("0")
+        return 0
+    return read_row(cursor)
+
+
 def read_number(cursor, signed):
     """(PLACE, FRACTION) of a number; if `signed` it may have a - ahead."""
     place = cursor.at
-    sign = 1
     if signed and cursor.stands("-"):
         cursor.need("-")
-        sign = -1
-    if sign == 1 and cursor.stands("0"):
-        cursor.need("0")
-        top = 0
+        top = -read_row(cursor)
     else:
-        top = read_row(cursor)
+        top = read_whole(cursor)
     bottom = 1
     if cursor.stands("/"):
         cursor.need("/")
         bottom = read_row(cursor)
-    return (place, lowest(sign * top, bottom))
+    return (place, lowest(top, bottom))

@@ -21,6 +21,12 @@ def possible_assignments(scenario, support):
     return [assignment for at, assignment in enumerate(assignments_of(scenario)) if all([row[at] for row in rows])]
 
 
+def is_possible(scenario, support, assignment):
+    """Whether what the global assignment tells of each context is possible."""
+    whole = everything(scenario)
+    return all([told_of(whole, assignment, context) in row for context, row in zip(scenario[1], support)])
+
+
 def told_of(whole, section, lot):
     """The part of a section of a lot that tells a lot within it."""
     return tuple([outcome for observable, outcome in zip(whole, section) if observable in lot])

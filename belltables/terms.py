@@ -16,6 +16,7 @@ JOINT = "joint"
 WEIGHTS = "weights"
 GAME = "game"
 TERM = "term"
+KINDS = ("family", "joint", "weights", "game", "term")
 EVEN = "even"
 POINT = "point"
 OF = "of"

@@ -4,15 +4,18 @@ import unittest
 
 from belltables.acyclic import (
     family_against, is_acyclic, is_obstruction, is_reduction, joint_along, obstruction, reduction)
+from belltables.consoles import Console
+from belltables.desks import Desk
 from belltables.fractions import contextual_fraction, covering, is_covering, noncontextual_fraction, rest_of
 from belltables.games import classical_value, game_value, most_value, no_signalling_value
-from belltables.errors import NoSection, NotSettled, TwiceNamed
+from belltables.errors import InUse, NoSection, NotSettled, TwiceNamed
 from belltables.inequalities import dimension, greatest, is_facet, normal
 from belltables.joint import is_noncontextual, joint_or_inequality, local_bound, value
 from belltables.labs import family_in, is_lab, is_settled, joint_in, open_share
 from belltables.language import lab_text, read_lab
 from belltables.logs import counts, gaps, log_chance, pick, play, play_joint, tables
 from belltables.markings import bases_of, marking, odd_bases, orthogonal_pairs
+from belltables.memory import constant_plan, is_plan, level, plan_chance, rounds_needed, tail, wins_of
 from belltables.parity import is_argument, parity_rows, solved_or_odd
 from belltables.paulis import (
     do_commute, family_or_odd, group_of, mean_of, pauli_family, pauli_product, pauli_rows, valued_or_odd)
@@ -211,6 +214,37 @@ class Examples(Case):
             [log_chance(bell, box, log), log_chance(bell, (flat,) * 4, log),
              play_joint(bell, self.lab()[2][1][2], ((0, 3), (1, 0)))],
             [(1, 8), (1, 64), (((0, (1, 1)), (1, (0, 0))), ((1, 1, 1, 1), (0, 0, 0, 0)))])
+
+    def test_memory(self):
+        log = play(bell, box, ((0, 0), (0, 1), (3, 5)))
+        game = ((quarter,) * 4, ((1, 0, 0, 1),) * 3 + ((0, 1, 1, 0),))
+        self.assertEqual(
+            [tail(3, 2, (3, 4)), wins_of(bell, game, log), level(bell, game, log), rounds_needed(bell, game, (1, 100))],
+            [(27, 32), 3, (27, 64), 17])
+        good, poor = constant_plan(bell, 1, (0, 0, 0, 0)), constant_plan(bell, 1, (0, 0, 1, 0))
+        plan = ((0, 0, 0, 0), (good, good, good, poor))
+        self.assertEqual(
+            [is_plan(bell, 2, plan), plan_chance(bell, game, plan, 1), plan_chance(bell, game, plan, 2),
+             tail(2, 1, (3, 4)), plan_chance(bell, game, constant_plan(bell, 2, (0, 0, 0, 0)), 1)],
+            [True, (13, 16), (9, 16), (15, 16), (15, 16)])
+
+    def test_desks(self):
+        desk = Desk(self.lab())
+        self.assertEqual(
+            [desk.roll("coin", 1, 3), desk.note(3, (0, 1)), desk.log,
+             desk.put("half", "term", ("mix", half, ("name", "noisy"), ("even",))), family_in(desk.lab, "half")[0],
+             len(desk), desk.undo(), desk.undo(), desk.log],
+            [None, None, ((1, (1, 1)), (3, (0, 1))), None, ((5, 16), (3, 16), (3, 16), (5, 16)), 3, None, None,
+             ((1, (1, 1)),)])
+        self.refuses((InUse, "given", "noisy"), desk.drop, "box")
+
+    def test_consoles(self):
+        table = Console(Desk(self.lab()))
+        self.assertEqual(
+            [table.say("roll box x a 1"), table.say("note y b: 10"), table.say("log").split("\n"),
+             table.say("chance noisy"), table.say("fraction noisy"), table.say("undo"),
+             table.say("table tame").split("\n")[0], table.say("fraction box")],
+            ['a x: 11', 'done', ['a x: 11 1', 'b y: 01 1'], '9/64', '0', 'done', 'a x: 00 1/6, 01 2/3, 11 1/6', '1'])
 
     def test_family_of(self):
         self.assertEqual(family_of(coin, (third, (2, 3))), ((third, (2, 3)),))

@@ -15,8 +15,9 @@ LIBRARY = {
     "collections": {"defaultdict"},
 }
 KNOWN = set(
-    "len range enumerate zip min max sum abs sorted reversed int str bool bytes list tuple dict set frozenset isinstance "
-    "ord repr any all divmod pow getattr hasattr setattr Exception ValueError TypeError KeyError IndexError LookupError "
+    "len range enumerate zip min max sum abs sorted reversed int str bool bytes list tuple dict set frozenset "
+    "isinstance ord repr any all divmod pow getattr hasattr setattr Exception ValueError TypeError KeyError "
+    "IndexError LookupError "
     "ZeroDivisionError ArithmeticError OverflowError RuntimeError NotImplementedError AttributeError StopIteration "
     "NotImplemented iter next map property staticmethod classmethod super object float".split())
 BARRED = {"register", "mro", "elements", "open", "input", "law", "version_info", "with_traceback", "add_note"}
@@ -184,6 +185,73 @@ class Rules(unittest.TestCase):
                     if isinstance(node, ast.Call) and isinstance(node.func, ast.Attribute) and (
                             node.func.attr in CHANGING and isinstance(node.func.value, ast.Name)):
                         self.assertNotIn(node.func.value.id, names, (path, node.lineno))
+
+    def test_double_underscores(self):
+        """Few methods of this kind; those that tell a length or leave a `with` do nothing else."""
+        for path, tree in self.trees.items():
+            for kind in ast.walk(tree):
+                if not isinstance(kind, ast.ClassDef):
+                    continue
+                self.assertIn(kind, tree.body)
+                for node in kind.body:
+                    self.assertTrue(isinstance(node, ast.FunctionDef) or (
+                        isinstance(node, ast.Expr) and isinstance(node.value, ast.Constant)), (path, node.lineno))
+                    if isinstance(node, ast.FunctionDef) and node.name.startswith("__"):
+                        self.assertIn(node.name, {"__init__", "__len__", "__bool__", "__enter__", "__exit__"})
+                    if isinstance(node, ast.FunctionDef) and node.name in ("__len__", "__bool__"):
+                        self.assertEqual([type(row) for row in node.body], [ast.Expr, ast.Return])
+                    if isinstance(node, ast.FunctionDef) and node.name == "__exit__":
+                        self.leaves(path, node)
+
+    def leaves(self, path, method):
+        """The rows of an `__exit__`: attributes assigned attributes, and a look whether there was an exception."""
+        for node in [node for row in method.body[1:] for node in ast.walk(row)]:
+            self.assertIsInstance(node, (ast.Assign, ast.If, ast.Compare, ast.IsNot, ast.Name, ast.Attribute,
+                                         ast.Constant, ast.expr_context), (path, method.lineno))
+            if isinstance(node, ast.Assign):
+                self.assertIsInstance(node.value, ast.Attribute)
+            if isinstance(node, ast.Name):
+                self.assertNotIn(node.id, ("value", "trace"))
+            if isinstance(node, ast.If):
+                self.assertEqual(ast.unparse(node.test), "kind is not None")
+
+    def test_tables(self):
+        """What is assigned at module level is plain, or a dict of functions that stand above it."""
+        for path, tree in self.trees.items():
+            above = set()
+            for node in tree.body:
+                if isinstance(node, ast.FunctionDef):
+                    above.add(node.name)
+                if isinstance(node, ast.Assign):
+                    self.assertEqual(len(node.targets), 1)
+                    self.assertIsInstance(node.targets[0], ast.Name)
+                    for inside in ast.walk(node.value):
+                        if isinstance(inside, ast.Name):
+                            self.assertIn(inside.id, above, (path, node.lineno))
+                        self.assertNotIsInstance(inside, (ast.Call, ast.List, ast.Set), (path, node.lineno))
+
+    def test_tables_are_read(self):
+        """A dict of the module level is read by an index or by `in` alone, and what it gives has a name when called."""
+        for path, tree in self.trees.items():
+            dicts = {node.targets[0].id for node in tree.body
+                     if isinstance(node, ast.Assign) and isinstance(node.value, ast.Dict)}
+            above = {below: node for node in ast.walk(tree) for below in ast.iter_child_nodes(node)}
+            for node in ast.walk(tree):
+                if isinstance(node, ast.Name) and node.id in dicts and isinstance(node.ctx, ast.Load):
+                    user = above[node]
+                    self.assertIsInstance(user, (ast.Subscript, ast.Compare), (path, node.lineno))
+                    self.assertNotIsInstance(above[user], ast.Call)
+
+    def test_handlers(self):
+        """Own errors alone are caught."""
+        for path, tree in self.trees.items():
+            for node in ast.walk(tree):
+                if isinstance(node, ast.Try):
+                    self.assertFalse(node.finalbody)
+                    for handler in node.handlers:
+                        self.assertEqual((handler.type.id, handler.name), ("LabError", None), path)
+                if isinstance(node, ast.Raise):
+                    self.assertTrue(isinstance(node.exc, ast.Call) and isinstance(node.exc.func, ast.Name), path)
 
     def test_sets(self):
         """A set is not iterated."""
